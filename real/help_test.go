@@ -42,6 +42,34 @@ func frac(text string) num.Frac {
 	return x
 }
 
+// longInt is the integer of that text.
+func longInt(text string) num.Int {
+	digits, below := strings.CutPrefix(text, "-")
+	var a num.Int
+	for digits != "" {
+		n := min(len(digits), api.MaxDigits)
+		// A first digit 0 is none that Parse reads.
+		d, _ := num.Parse("1" + digits[:n-1])
+		ten, _ := num.Parse("1" + nulls(n-1))
+		last := num.Of(int(digits[n-1] - '0'))
+		a = a.Mul(ten).Add(d.Sub(ten)).Mul(num.Of(10)).Add(last)
+		digits = digits[n:]
+	}
+	if below {
+		return a.Neg()
+	}
+	return a
+}
+
+// readLong is the polynomial with these integers, which may be longer than poly.New reads, as coefficients.
+func readLong(texts []string) poly.Poly {
+	cs := make([]num.Frac, len(texts))
+	for i, text := range texts {
+		cs[i] = num.Whole(longInt(text))
+	}
+	return poly.Of(cs...)
+}
+
 // tenth is 1 over 10^n.
 func tenth(n int) num.Frac {
 	ten, _ := num.Of(10).Pow(n)

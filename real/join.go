@@ -3,6 +3,7 @@ package real
 import (
 	"slices"
 
+	"radicand/algebraic"
 	"radicand/api"
 	"radicand/num"
 	"radicand/poly"
@@ -25,19 +26,19 @@ func join(a, b api.Alg, all func(f, g poly.Poly) poly.Poly, s span) (api.Alg, ap
 	if fault.Code != 0 {
 		return api.Alg{}, fault
 	}
-	if x.f.Degree()*y.f.Degree() > api.MaxFactor {
+	if x.F.Degree()*y.F.Degree() > api.MaxFactor {
 		return api.Alg{}, api.Fault{Code: api.ErrMany}
 	}
-	zs, _ := rootsOf(all(x.f, y.f))
+	zs, _ := algebraic.Zeros(all(x.F, y.F))
 	roots.CloseIn(func(k int) bool {
-		low, high := s(x.root(), y.root(), k)
-		zs = slices.DeleteFunc(zs, func(z number) bool {
-			at := z.root().Floor(k)
+		low, high := s(x.Root(), y.Root(), k)
+		zs = slices.DeleteFunc(zs, func(z algebraic.Zero) bool {
+			at := z.Root().Floor(k)
 			return at.Cmp(low) < 0 || at.Cmp(high) > 0
 		})
 		return len(zs) < 2
 	})
-	return zs[0].told(), api.Fault{}
+	return zs[0].Told(), api.Fault{}
 }
 
 func sumSpan(x, y *roots.Root, k int) (low, high num.Int) {
