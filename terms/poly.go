@@ -1,0 +1,71 @@
+// Package terms has polynomials of several variables, as what reads terms hands them on.
+package terms
+
+import "radicand/num"
+
+// Poly is a polynomial. The zero value is 0.
+type Poly struct {
+	ts []term // in their order by Lex, no power twice, no coefficient 0; never written to again
+}
+
+type term struct {
+	c num.Frac
+	e power
+}
+
+// single is the polynomial with this term alone.
+func single(c num.Frac, e power) Poly {
+	if c.Sign() == 0 {
+		return Poly{}
+	}
+	return Poly{[]term{{c, e}}}
+}
+
+// total is the sum of what part tells of the numbers from lo to below hi. It is added by halves: so each term is moved
+// few times, and long fractions meet fractions that are about as long.
+func total(lo, hi int, part func(i int) Poly) Poly {
+	switch hi - lo {
+	case 0:
+		return Poly{}
+	case 1:
+		return part(lo)
+	}
+	mid := lo + (hi-lo)/2
+	return total(lo, mid, part).Add(total(mid, hi, part))
+}
+
+// Add is p + q.
+func (p Poly) Add(q Poly) Poly {
+	a, b := p.ts, q.ts
+	ts := make([]term, 0, len(a)+len(b))
+	for len(a) > 0 && len(b) > 0 {
+		switch {
+		case a[0].e == b[0].e:
+			if c := a[0].c.Add(b[0].c); c.Sign() != 0 {
+				ts = append(ts, term{c, a[0].e})
+			}
+			a, b = a[1:], b[1:]
+		case lex(a[0].e, b[0].e) < 0:
+			ts = append(ts, a[0])
+			a = a[1:]
+		default:
+			ts = append(ts, b[0])
+			b = b[1:]
+		}
+	}
+	return Poly{append(append(ts, a...), b...)}
+}
+
+// Mul is p times q.
+func (p Poly) Mul(q Poly) Poly {
+	return total(0, len(q.ts), func(i int) Poly { return p.times(q.ts[i]) })
+}
+
+// times is p times a term that is not 0.
+func (p Poly) times(by term) Poly {
+	ts := make([]term, len(p.ts))
+	for i, t := range p.ts {
+		ts[i] = term{t.c.Mul(by.c), t.e.times(by.e)}
+	}
+	return Poly{ts}
+}
