@@ -55,8 +55,12 @@ func (f Field) determinant(a, b []uint64) uint64 {
 			rows = append(rows, row)
 		}
 	}
+	return f.rowsDeterminant(rows)
+}
+
+func (f Field) rowsDeterminant(rows [][]uint64) uint64 {
 	det := f.one
-	for k := range size {
+	for k := range rows {
 		i := slices.IndexFunc(rows[k:], func(row []uint64) bool { return row[k] != 0 })
 		if i < 0 {
 			return 0

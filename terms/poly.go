@@ -10,16 +10,39 @@ type Poly struct {
 
 type term struct {
 	c num.Frac
-	e power
+	e Power
 }
 
-// single is the polynomial with this term alone.
-func single(c num.Frac, e power) Poly {
+// Single is the polynomial with this term alone; 0, if c is.
+func Single(c num.Frac, e Power) Poly {
 	if c.Sign() == 0 {
 		return Poly{}
 	}
 	return Poly{[]term{{c, e}}}
 }
+
+// Number is the polynomial that is c everywhere.
+func Number(c num.Frac) Poly { return Single(c, Power{}) }
+
+// IsNumber tells whether no variable stands in p.
+func (p Poly) IsNumber() bool {
+	return len(p.ts) == 0 || p.ts[0].e == Power{}
+}
+
+// Len is how many terms p has.
+func (p Poly) Len() int { return len(p.ts) }
+
+// Each hands on the exponents and the coefficient of each term, in their order by Lex.
+func (p Poly) Each(yield func(e Power, c num.Frac) bool) {
+	for _, t := range p.ts {
+		if !yield(t.e, t.c) {
+			return
+		}
+	}
+}
+
+// Total is the sum of n polynomials: of what part tells of the numbers from 0 on.
+func Total(n int, part func(i int) Poly) Poly { return total(0, n, part) }
 
 // total is the sum of what part tells of the numbers from lo to below hi. It is added by halves: so each term is moved
 // few times, and long fractions meet fractions that are about as long.
@@ -56,8 +79,22 @@ func (p Poly) Add(q Poly) Poly {
 	return Poly{append(append(ts, a...), b...)}
 }
 
+// Sub is p - q.
+func (p Poly) Sub(q Poly) Poly { return p.Add(q.Scale(num.Whole(num.Of(-1)))) }
+
+// Scale is k times p.
+func (p Poly) Scale(k num.Frac) Poly {
+	if k.Sign() == 0 {
+		return Poly{}
+	}
+	return p.times(term{c: k})
+}
+
 // Mul is p times q.
 func (p Poly) Mul(q Poly) Poly {
+	if len(p.ts) < len(q.ts) {
+		p, q = q, p
+	}
 	return total(0, len(q.ts), func(i int) Poly { return p.times(q.ts[i]) })
 }
 

@@ -16,7 +16,7 @@ func Check(l []api.Term, n, order int) api.Fault {
 // Read is the polynomial of n variables with these terms, and the fault that Check tells.
 func Read(l []api.Term, n, order int) (Poly, api.Fault) {
 	ts, fault := readAll(l, n, order)
-	return total(0, len(ts), func(i int) Poly { return single(ts[i].c, ts[i].e) }), fault
+	return total(0, len(ts), func(i int) Poly { return Single(ts[i].c, ts[i].e) }), fault
 }
 
 // readAll is the terms as they stand, and the fault of what is none; with a fault there are no terms.

@@ -37,7 +37,7 @@ func wantForm(t *testing.T, what string, p Poly) {
 }
 
 func TestOrders(t *testing.T) {
-	falling := map[int][]power{
+	falling := map[int][]Power{
 		api.Lex:     {{2, 0, 0, 0}, {1, 2, 0, 0}, {1, 0, 9, 9}, {0, 3, 0, 0}, {0, 2, 0, 1}, {0, 0, 1, 0}, {0, 0, 0, 7}, {}},
 		api.Grlex:   {{0, 0, 0, 4}, {1, 0, 2, 0}, {1, 0, 1, 1}, {0, 3, 0, 0}, {0, 2, 1, 0}, {2, 0, 0, 0}, {0, 0, 0, 1}, {}},
 		api.Grevlex: {{0, 0, 0, 4}, {0, 3, 0, 0}, {0, 2, 1, 0}, {1, 0, 2, 0}, {2, 0, 0, 1}, {0, 1, 0, 2}, {2, 0, 0, 0}, {0, 0, 0, 1}, {}},
@@ -49,7 +49,7 @@ func TestOrders(t *testing.T) {
 				want(t, "ahead", ahead(a, b) < 0, i < j)
 				want(t, "behind", ahead(a, b) > 0, i > j)
 				// What is ahead stays ahead in a product.
-				by := power{3, 1, 4, 1}
+				by := Power{3, 1, 4, 1}
 				want(t, "times", ahead(a.times(by), b.times(by)) < 0, i < j)
 			}
 		}
@@ -86,15 +86,15 @@ func TestPowers(t *testing.T) {
 	want(t, "by the other", q.Derive(1).ts[0].c.Text(), "300")
 }
 
-func number(n int) Poly { return single(whole(n), power{}) }
+func number(n int) Poly { return Single(whole(n), Power{}) }
 
 func TestTotal(t *testing.T) {
 	for n := range 40 {
-		p := total(3, 3+n, func(i int) Poly { return single(whole(i-10), power{i % 5, i % 3}) })
+		p := total(3, 3+n, func(i int) Poly { return Single(whole(i-10), Power{i % 5, i % 3}) })
 		wantForm(t, "a sum", p)
 		q := Poly{}
 		for i := 3; i < 3+n; i++ {
-			q = single(whole(i-10), power{i % 5, i % 3}).Add(q)
+			q = Single(whole(i-10), Power{i % 5, i % 3}).Add(q)
 		}
 		want(t, "one by one", len(p.Add(q.Mul(number(-1))).ts), 0)
 		want(t, "as much", len(p.ts), len(q.ts))

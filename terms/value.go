@@ -30,18 +30,18 @@ func (p Poly) number() num.Frac {
 // that makes all powers of x integers. So lowest terms need not be sought at each step.
 func (p Poly) weighed(v int, x num.Frac) (Poly, num.Int) {
 	above, below := x.Parts()
-	d := p.degree(v)
+	d := p.Degree(v)
 	up, down := powers(above, d), powers(below, d)
 	q := total(0, len(p.ts), func(i int) Poly {
 		t := p.ts[i]
 		e := t.e[v]
-		return single(t.c.Mul(num.Whole(up[e].Mul(down[d-e]))), t.e.with(v, 0))
+		return Single(t.c.Mul(num.Whole(up[e].Mul(down[d-e]))), t.e.with(v, 0))
 	})
 	return q, down[d]
 }
 
-// degree is the greatest exponent of variable v; 0, if p is 0.
-func (p Poly) degree(v int) int {
+// Degree is the greatest exponent of variable v; 0, if p is 0.
+func (p Poly) Degree(v int) int {
 	d := 0
 	for _, t := range p.ts {
 		d = max(d, t.e[v])
@@ -61,7 +61,7 @@ func powers(a num.Int, d int) []num.Int {
 // over is p divided by a number that is not 0.
 func (p Poly) over(a num.Int) Poly {
 	k, _ := num.Over(num.Of(1), a)
-	return p.times(term{c: k})
+	return p.Scale(k)
 }
 
 // Derive is p's derivative by variable v.
