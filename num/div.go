@@ -10,6 +10,10 @@ func divWords(a, b []uint64) (q, r []uint64) {
 	if cmpWords(a, b) < 0 {
 		return nil, a
 	}
+	if isTwoTo(b) {
+		n := bitLen(b) - 1
+		return shiftRight(a, n), lowBits(a, n)
+	}
 	if len(b) == 1 {
 		q = make([]uint64, len(a))
 		copy(q, a)

@@ -12,6 +12,12 @@ func mulWords(x, y []uint64) []uint64 {
 	if len(y) == 0 {
 		return nil
 	}
+	if isTwoTo(y) {
+		return shiftLeft(x, bitLen(y)-1)
+	}
+	if isTwoTo(x) {
+		return shiftLeft(y, bitLen(x)-1)
+	}
 	z := make([]uint64, len(x)+len(y))
 	if len(y) < halvesFrom {
 		mulRows(z, x, y)

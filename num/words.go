@@ -110,6 +110,30 @@ func moveUp(z, x []uint64, s uint) {
 	z[len(x)] = below
 }
 
+// lowBits is what is left of x divided by 2^n, which is not above x.
+func lowBits(x []uint64, n int) []uint64 {
+	k := n / 64
+	z := make([]uint64, k+1)
+	copy(z, x)
+	z[k] &= 1<<(n%64) - 1
+	return front(z, len(z))
+}
+
+// isTwoTo tells whether a magnitude that has words is a power of 2. (Such numbers are what much is multiplied by, or
+// divided by, where others are rounded.)
+func isTwoTo(w []uint64) bool {
+	last := len(w) - 1
+	if w[last]&(w[last]-1) != 0 {
+		return false
+	}
+	for _, d := range w[:last] {
+		if d != 0 {
+			return false
+		}
+	}
+	return true
+}
+
 // shiftRight is the quotient of x and 2^n.
 func shiftRight(x []uint64, n int) []uint64 {
 	k := n / 64

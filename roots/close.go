@@ -3,6 +3,7 @@ package roots
 import (
 	"radicand/num"
 	"radicand/poly"
+	"radicand/whole"
 )
 
 // The k with which closing in begins.
@@ -30,7 +31,7 @@ func (r *Root) Sign(p poly.Poly) int {
 	cs, s := numbers(p), 0
 	CloseIn(func(bits int) bool {
 		v, off := near(cs, r.Floor(bits), bits)
-		if size(v).Cmp(off) > 0 {
+		if whole.Size(v).Cmp(off) > 0 {
 			s = v.Sign()
 		}
 		return s != 0
@@ -41,12 +42,12 @@ func (r *Root) Sign(p poly.Poly) int {
 // near is 2^k times what the polynomial comes to somewhere from at over 2^k to at + 1 over 2^k: a number, and how far
 // it may be from that at most.
 func near(cs []num.Int, at num.Int, k int) (v, off num.Int) {
-	unit := twoTo(k)
-	most := next(size(at))
+	unit := whole.TwoTo(k)
+	most := next(whole.Size(at))
 	for i := len(cs) - 1; i >= 0; i-- {
 		// Two more: both quotients are rounded.
-		off = floor(size(v).Add(off.Mul(most)), unit).Add(num.Of(2))
-		v = floor(v.Mul(at), unit).Add(cs[i].Mul(unit))
+		off = whole.Floor(whole.Size(v).Add(off.Mul(most)), unit).Add(num.Of(2))
+		v = whole.Floor(v.Mul(at), unit).Add(cs[i].Mul(unit))
 	}
 	return v, off
 }
@@ -57,9 +58,9 @@ func (r *Root) Floor(k int) num.Int {
 		r.step(min(r.leap, k-r.k))
 	}
 	if r.k < k {
-		return r.at.Mul(twoTo(k - r.k))
+		return r.at.Mul(whole.TwoTo(k - r.k))
 	}
-	return floor(r.at, twoTo(r.k-k))
+	return whole.Floor(r.at, whole.TwoTo(r.k-k))
 }
 
 // An end of a span: where it is, in parts of 2^k, and what f comes to there, as value tells it.
@@ -103,8 +104,8 @@ func (r *Root) ends(bits int) (low, high end) {
 	if !r.begun {
 		r.low, r.high, r.begun = r.end(r.at, r.k).value, r.end(behind, r.k).value, true
 	}
-	times := twoTo(bits)
-	grown := twoTo((len(r.f) - 1) * (max(r.k+bits, 0) - max(r.k, 0)))
+	times := whole.TwoTo(bits)
+	grown := whole.TwoTo((len(r.f) - 1) * (max(r.k+bits, 0) - max(r.k, 0)))
 	return end{r.at.Mul(times), r.low.Mul(grown)}, end{behind.Mul(times), r.high.Mul(grown)}
 }
 
@@ -114,7 +115,7 @@ func beside(low, high end) bool { return high.at.Cmp(next(low.at)) == 0 }
 // between is an integer between the ends, which are not beside each other: near to where a straight line is 0.
 func between(low, high end) num.Int {
 	long, fall := high.at.Sub(low.at), low.value.Sub(high.value)
-	at := floor(low.value.Mul(long).Mul(num.Of(2)).Add(fall), fall.Mul(num.Of(2)))
+	at := whole.Floor(low.value.Mul(long).Mul(num.Of(2)).Add(fall), fall.Mul(num.Of(2)))
 	if at.Sign() <= 0 {
 		return next(low.at)
 	}

@@ -5,12 +5,13 @@ import (
 
 	"radicand/num"
 	"radicand/poly"
+	"radicand/whole"
 )
 
 func TestFloorOfRootOfTwo(t *testing.T) {
 	rs := All(of(-2, 0, 1))
 	for _, k := range []int{0, 1, 10, 333, 20, 5000, 5001, 0} {
-		square := twoTo(2*k + 1)
+		square := whole.TwoTo(2*k + 1)
 		low, _ := square.Root(2)
 		want(t, "above 0", rs[1].Floor(k).Text(), low.Text())
 		want(t, "below 0", rs[0].Floor(k).Text(), next(low).Neg().Text())
@@ -19,7 +20,7 @@ func TestFloorOfRootOfTwo(t *testing.T) {
 
 // The number of steps grows with the bits of the bits.
 func TestClosingInIsQuick(t *testing.T) {
-	for _, p := range []poly.Poly{of(-2, 0, 1), of(-5, 1, 0, 0, 0, 0, 0, 1), of(1, -1<<50, 1), poly.Of(num.Whole(twoTo(3001).Neg()), number(1), number(1))} {
+	for _, p := range []poly.Poly{of(-2, 0, 1), of(-5, 1, 0, 0, 0, 0, 0, 1), of(1, -1<<50, 1), poly.Of(num.Whole(whole.TwoTo(3001).Neg()), number(1), number(1))} {
 		for _, r := range All(p) {
 			n := 0
 			for r.k < 100000 {
@@ -60,14 +61,14 @@ func TestSign(t *testing.T) {
 
 // What is near 0 at a root far from 0 and near to it.
 func TestSignOfLongNumbers(t *testing.T) {
-	far, small := twoTo(3000), poly.Of(num.Whole(num.Of(-2)), number(0), num.Whole(twoTo(6000)))
+	far, small := whole.TwoTo(3000), poly.Of(num.Whole(num.Of(-2)), number(0), num.Whole(whole.TwoTo(6000)))
 	rs := All(small)
 	want(t, "number of roots", len(rs), 2)
 	want(t, "x^9", rs[0].Sign(power(9)), -1)
 	want(t, "x^10", rs[0].Sign(power(10)), 1)
 	want(t, "x - 1/far", rs[1].Sign(poly.Of(number(-1), num.Whole(far))), 1)
 	want(t, "x - 2/far", rs[1].Sign(poly.Of(number(-2), num.Whole(far))), -1)
-	rs = All(poly.Of(num.Whole(twoTo(6001).Neg()), number(0), number(1)))
+	rs = All(poly.Of(num.Whole(whole.TwoTo(6001).Neg()), number(0), number(1)))
 	want(t, "x^9", rs[0].Sign(power(9)), -1)
 	want(t, "x^200", rs[0].Sign(power(200).Sub(of(1))), 1)
 	want(t, "x - far", rs[1].Sign(poly.Of(num.Whole(far.Neg()), number(1))), 1)
@@ -87,9 +88,9 @@ func TestCmp(t *testing.T) {
 	}
 	for _, k := range []int{1, 40, 700} {
 		// The root of 4^k + 1 is above 2^k by some 1 over 2^(k + 1); the root of 4^k + 2 by twice that.
-		one := All(poly.Of(num.Whole(next(twoTo(2*k)).Neg()), number(0), number(1)))[1]
-		two := All(poly.Of(num.Whole(next(next(twoTo(2*k))).Neg()), number(0), number(1)))[1]
-		whole := All(poly.Of(num.Whole(twoTo(k).Neg()), number(1)))[0]
+		one := All(poly.Of(num.Whole(next(whole.TwoTo(2*k)).Neg()), number(0), number(1)))[1]
+		two := All(poly.Of(num.Whole(next(next(whole.TwoTo(2*k))).Neg()), number(0), number(1)))[1]
+		whole := All(poly.Of(num.Whole(whole.TwoTo(k).Neg()), number(1)))[0]
 		want(t, "one and two", Cmp(one, two), -1)
 		want(t, "two and one", Cmp(two, one), 1)
 		want(t, "whole and one", Cmp(whole, one), -1)
@@ -99,17 +100,6 @@ func TestCmp(t *testing.T) {
 
 // with2 is x^2 - a.
 func with2(a int) poly.Poly { return of(-a, 0, 1) }
-
-func TestBitLen(t *testing.T) {
-	for _, n := range []int{0, 1, 5, 61, 62, 63, 64, 65, 123, 124, 125, 126, 500, 1000, 12345} {
-		a := twoTo(n)
-		want(t, "power of 2", bitLen(a), n+1)
-		want(t, "its opposite", bitLen(a.Neg()), n+1)
-		want(t, "one less", bitLen(a.Sub(num.Of(1))), n)
-		want(t, "three times", bitLen(a.Mul(num.Of(3))), n+2)
-	}
-	want(t, "0", bitLen(num.Int{}), 0)
-}
 
 func TestUp(t *testing.T) {
 	for _, c := range [][3]int{{0, 3, 0}, {1, 3, 1}, {3, 3, 1}, {4, 3, 2}, {-1, 3, 0}, {-3, 3, -1}, {-4, 3, -1}, {-5, 2, -2}} {

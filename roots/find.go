@@ -5,6 +5,7 @@ import (
 
 	"radicand/num"
 	"radicand/poly"
+	"radicand/whole"
 )
 
 // A leap of fewer bits gains less than it takes.
@@ -54,7 +55,7 @@ func bound(f []num.Int) int {
 	most := math.MinInt
 	for i := 1; i <= n; i++ {
 		if c := f[n-i]; c.Sign() != 0 {
-			most = max(most, up(bitLen(c)-bitLen(f[n])+1, i)+1)
+			most = max(most, up(whole.BitLen(c)-whole.BitLen(f[n])+1, i)+1)
 		}
 	}
 	if most == math.MinInt {
@@ -112,7 +113,7 @@ func (s *search) cell(at num.Int, k int) cell {
 
 // spread is the coefficients of f at x over 2^k, times a power of 2 that makes integers of them.
 func spread(f []num.Int, k int) []num.Int {
-	cs, unit, power := make([]num.Int, len(f)), twoTo(max(k, -k)), num.Of(1)
+	cs, unit, power := make([]num.Int, len(f)), whole.TwoTo(max(k, -k)), num.Of(1)
 	for i := range cs {
 		j := i
 		if k > 0 {
@@ -130,12 +131,12 @@ func weights(n int) []num.Int {
 	for i := range row {
 		row[i] = num.Of(1)
 		if i > 0 {
-			row[i] = floor(row[i-1].Mul(num.Of(n-i+1)), num.Of(i))
+			row[i] = whole.Floor(row[i-1].Mul(num.Of(n-i+1)), num.Of(i))
 		}
-		all = all.Mul(floor(row[i], num.Gcd(all, row[i])))
+		all = all.Mul(whole.Floor(row[i], num.Gcd(all, row[i])))
 	}
 	for i, c := range row {
-		row[i] = floor(all, c)
+		row[i] = whole.Floor(all, c)
 	}
 	return row
 }
@@ -170,7 +171,7 @@ func (c cell) halves() (low, high cell) {
 	sums, left, right := make([]num.Int, n+1), make([]num.Int, n+1), make([]num.Int, n+1)
 	copy(sums, c.bs)
 	for i := range n + 1 {
-		times := twoTo(n - i)
+		times := whole.TwoTo(n - i)
 		left[i], right[n-i] = sums[0].Mul(times), sums[n-i].Mul(times)
 		for j := range n - i {
 			sums[j] = sums[j].Add(sums[j+1])
@@ -201,7 +202,7 @@ func (d *cell) follow(c cell, leap int) {
 // if it goes for so many of them at once. So it takes few leaps, and not as many halves as bits, to get there:
 // Sagraloff's way.)
 func (s *search) jump(c cell) (cell, bool) {
-	times := twoTo(c.leap)
+	times := whole.TwoTo(c.leap)
 	for _, j := range c.guesses(times) {
 		d := s.cell(c.at.Mul(times).Add(j), c.k+c.leap)
 		if d.changes == c.changes {
@@ -219,7 +220,7 @@ func (c cell) guesses(times num.Int) []num.Int {
 	n, last := len(c.bs)-1, times.Sub(num.Of(1))
 	// From an end it goes as far as f is over its slope there, times the number of roots; but not out of c.
 	way := func(end, beside num.Int) num.Int {
-		j := floor(end.Mul(times).Mul(num.Of(c.changes)), end.Sub(beside).Mul(num.Of(n)))
+		j := whole.Floor(end.Mul(times).Mul(num.Of(c.changes)), end.Sub(beside).Mul(num.Of(n)))
 		if j.Sign() < 0 {
 			return num.Of(0)
 		}

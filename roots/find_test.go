@@ -7,6 +7,7 @@ import (
 
 	"radicand/num"
 	"radicand/poly"
+	"radicand/whole"
 )
 
 // wantKnown is a failure, if the roots are not these fractions, which rise, no two of them so many bits apart.
@@ -25,7 +26,7 @@ func wantKnown(t *testing.T, what string, rs []*Root, xs []num.Frac, bits int) {
 	for i, r := range rs {
 		for _, k := range []int{0, 1, 7, 64, 3, bits, 0} {
 			at := r.Floor(k)
-			want(t, "Floor of "+xs[i].Text(), at.Text(), xs[i].Mul(num.Whole(twoTo(k))).Floor().Text())
+			want(t, "Floor of "+xs[i].Text(), at.Text(), xs[i].Mul(num.Whole(whole.TwoTo(k))).Floor().Text())
 		}
 		want(t, "against it, closed in on", r.Against(xs[i]), 0)
 	}
@@ -121,11 +122,11 @@ func TestFindingIsQuick(t *testing.T) {
 func TestMignotte(t *testing.T) {
 	for _, n := range []int{3, 4, 7, 16} {
 		for _, digits := range []int{1, 20, 100} {
-			a := poly.Of(number(-1), num.Whole(twoTo(digits*10/3).Add(num.Of(1))))
+			a := poly.Of(number(-1), num.Whole(whole.TwoTo(digits*10/3).Add(num.Of(1))))
 			p := power(n).Sub(a.Mul(a).Scale(number(2)))
 			rs := All(p)
 			want(t, "number of roots", len(rs), 3+(n+1)%2)
-			middle := over(num.Of(1), twoTo(digits*10/3).Add(num.Of(1)))
+			middle := over(num.Of(1), whole.TwoTo(digits*10/3).Add(num.Of(1)))
 			i := len(rs) - 3
 			want(t, "below 1/a", rs[i].Against(middle), -1)
 			want(t, "above 1/a", rs[i+1].Against(middle), 1)
@@ -134,7 +135,7 @@ func TestMignotte(t *testing.T) {
 		}
 	}
 	// With 2 (a x - 1)^2 in the place of its opposite the two are not real.
-	a := poly.Of(number(-1), num.Whole(twoTo(1000).Add(num.Of(1))))
+	a := poly.Of(number(-1), num.Whole(whole.TwoTo(1000).Add(num.Of(1))))
 	want(t, "not real", len(All(power(16).Add(a.Mul(a).Scale(number(2))))), 0)
 }
 
@@ -184,11 +185,11 @@ func TestBound(t *testing.T) {
 			if n < 0 {
 				want(t, told(p), r.Against(bit(-n)) < 0 && r.Against(bit(-n).Neg()) > 0, true)
 			} else {
-				want(t, told(p), r.Against(num.Whole(twoTo(n))) < 0 && r.Against(num.Whole(twoTo(n).Neg())) > 0, true)
+				want(t, told(p), r.Against(num.Whole(whole.TwoTo(n))) < 0 && r.Against(num.Whole(whole.TwoTo(n).Neg())) > 0, true)
 			}
 		}
 	}
-	want(t, "small roots, near 0", bound([]num.Int{num.Of(-1), twoTo(1000)}) < -900, true)
+	want(t, "small roots, near 0", bound([]num.Int{num.Of(-1), whole.TwoTo(1000)}) < -900, true)
 }
 
 func TestWeights(t *testing.T) {
@@ -237,7 +238,7 @@ func wantCell(t *testing.T, p poly.Poly, c cell) {
 			}
 		}
 		sum = sum.Add(term)
-		times = floor(times.Mul(num.Of(n-i)), num.Of(i+1))
+		times = whole.Floor(times.Mul(num.Of(n-i)), num.Of(i+1))
 	}
 	want(t, "degree", sum.Degree(), there.Degree())
 	k, _ := sum.Lead().Quo(there.Lead())

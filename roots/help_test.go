@@ -6,6 +6,7 @@ import (
 
 	"radicand/num"
 	"radicand/poly"
+	"radicand/whole"
 )
 
 // want is a failure, if what is told is not what is wanted.
@@ -32,7 +33,7 @@ func over(a, b num.Int) num.Frac {
 }
 
 // bit is 1 over 2^n.
-func bit(n int) num.Frac { return over(num.Of(1), twoTo(n)) }
+func bit(n int) num.Frac { return over(num.Of(1), whole.TwoTo(n)) }
 
 // of is the polynomial with these coefficients, the lowest first.
 func of(cs ...int) poly.Poly {
@@ -99,9 +100,9 @@ func wantRoots(t *testing.T, p poly.Poly, rs []*Root) {
 	for i, r := range rs {
 		for _, k := range []int{0, 3, 40, 1} {
 			at := r.Floor(k)
-			s, next := p.Eval(over(at, twoTo(k))).Sign(), p.Eval(over(next(at), twoTo(k))).Sign()
-			want(t, "against its Floor", r.Against(over(at, twoTo(k))) >= 0, true)
-			want(t, "against the next number", r.Against(over(at.Add(num.Of(1)), twoTo(k))), -1)
+			s, next := p.Eval(over(at, whole.TwoTo(k))).Sign(), p.Eval(over(next(at), whole.TwoTo(k))).Sign()
+			want(t, "against its Floor", r.Against(over(at, whole.TwoTo(k))) >= 0, true)
+			want(t, "against the next number", r.Against(over(at.Add(num.Of(1)), whole.TwoTo(k))), -1)
 			if k == 40 && (i == 0 || rs[i-1].Floor(k).Cmp(at) < 0) && (i == len(rs)-1 || rs[i+1].Floor(k).Cmp(at) > 0) {
 				want(t, "signs around a root of "+told(p), s*next < 0 || s == 0, true)
 			}

@@ -1,10 +1,9 @@
 package roots
 
 import (
-	"math/bits"
-
 	"radicand/num"
 	"radicand/poly"
+	"radicand/whole"
 )
 
 // numbers is the coefficients, the lowest first, of a polynomial that has integers as such.
@@ -16,53 +15,8 @@ func numbers(f poly.Poly) []num.Int {
 	return l
 }
 
-// twoTo is 2 to the n, which is not below 0.
-func twoTo(n int) num.Int {
-	if n < 62 {
-		return num.Of(1 << n)
-	}
-	half := twoTo(n / 2)
-	p := half.Mul(half)
-	if n%2 == 1 {
-		p = p.Add(p)
-	}
-	return p
-}
-
-// bitLen is how many bits a has without its sign.
-func bitLen(a num.Int) int {
-	if n, is := a.Small(); is {
-		return bits.Len64(uint64(max(n, -n)))
-	}
-	if a.Sign() < 0 {
-		a = a.Neg()
-	}
-	n := 62
-	for a.Cmp(twoTo(2*n)) >= 0 {
-		n *= 2
-	}
-	return n + bitLen(floor(a, twoTo(n)))
-}
-
 // next is a + 1.
 func next(a num.Int) num.Int { return a.Add(num.Of(1)) }
-
-// size is a without its sign.
-func size(a num.Int) num.Int {
-	if a.Sign() < 0 {
-		return a.Neg()
-	}
-	return a
-}
-
-// floor is the greatest integer that is not above a divided by b; 0, if b is 0.
-func floor(a, b num.Int) num.Int {
-	if b.Sign() < 0 {
-		a, b = a.Neg(), b.Neg()
-	}
-	q, _, _ := a.Div(b)
-	return q
-}
 
 // up is the least integer that is not below a divided by b, which is above 0.
 func up(a, b int) int {
@@ -76,9 +30,9 @@ func up(a, b int) int {
 // parts is at over 2^k, above and below the bar.
 func parts(at num.Int, k int) (num.Int, num.Int) {
 	if k < 0 {
-		return at.Mul(twoTo(-k)), num.Of(1)
+		return at.Mul(whole.TwoTo(-k)), num.Of(1)
 	}
-	return at, twoTo(k)
+	return at, whole.TwoTo(k)
 }
 
 // compare is -1, 0 or 1, as at over 2^k is below x, is x, or above it.

@@ -1,0 +1,173 @@
+package tower
+
+import (
+	"math/bits"
+
+	"radicand/ball"
+	"radicand/num"
+	"radicand/roots"
+	"radicand/terms"
+)
+
+// A line is a polynomial in one variable, above a point with whose coordinates its coefficients come to numbers.
+type line struct {
+	under    Point
+	cs       []terms.Poly // the coefficients by that variable, with integers as theirs; the last is not 0 at the point
+	size     size         // that of the whole polynomial, of which the variables of the point count
+	distinct int          // how many roots it has, each once, also those that are not real; or more
+
+	known   bool        // distinct is just how many
+	squares bool        // there are fewer roots than the degree: what counts is the polynomial in which each is once
+	bits    int         // those by which the real roots are told apart
+	cells   []ball.Cell // what they are told apart by
+
+	exact []*roots.Root // the real roots instead, if the coefficients are numbers at every point
+}
+
+// degree is the degree in the variable.
+func (l *line) degree() int { return len(l.cs) - 1 }
+
+// coefficients is the polynomial that counts, if it can be told by that rule.
+func (l *line) coefficients(r ball.Rule) ([]ball.Ball, bool) {
+	cs := l.under.look(r).values(l.cs)
+	if !l.squares {
+		return cs, true
+	}
+	return once(cs, l.distinct, r)
+}
+
+// once is the polynomial that is 0 once at each of the n roots of cs. The sums of their powers, each root as often as it
+// is there, go on by it: so they tell it.
+func once(cs []ball.Ball, n int, r ball.Rule) ([]ball.Ball, bool) {
+	sums, ok := r.Sums(cs, 2*n-1)
+	if !ok {
+		return nil, false
+	}
+	rows := ball.Hankel(sums, n, n+1)
+	for _, row := range rows {
+		row[n] = row[n].Times(num.Of(-1))
+	}
+	cs, ok = r.Solve(rows)
+	return append(cs, r.Whole(num.Of(1))), ok
+}
+
+// settle tells the real roots apart. To look for what is not there, as where a root is there twice, takes long: so it is
+// looked by more than few bits only if it is known how many roots there are.
+func (l *line) settle() {
+	for n, few := firstLook, secondLook; ; {
+		r := ball.Of(n)
+		if l.known || n <= few {
+			far, ok := l.tell(r)
+			if ok {
+				return
+			}
+			few = max(few, secondLook+far)
+		}
+		switch {
+		case l.known:
+			n *= 4
+		case n < few:
+			n = few
+		default:
+			n = l.count(r)
+		}
+	}
+}
+
+// tell tells the real roots apart, if it can by that rule; if not, it answers how many bits may be lost because roots
+// may be far from each other.
+func (l *line) tell(r ball.Rule) (int, bool) {
+	cs, ok := l.coefficients(r)
+	if !ok {
+		return 0, false
+	}
+	cells, ok := ball.Cells(cs)
+	if !ok {
+		return l.degree() * max(0, ball.Bound(cs)), false
+	}
+	l.cells, l.bits = cells, r.Bits()
+	return 0, true
+}
+
+// count looks for how many roots there are, by that rule, and answers by how many bits it is to be looked next. There are
+// the greatest n so that the determinant of the first n rows and columns of the sums of powers is not 0: it is a sum over
+// all n of the roots, of how often each of them is there, times the squares of the distances between them.
+func (l *line) count(r ball.Rule) int {
+	cs := l.under.look(r).values(l.cs)
+	sums, ok := r.Sums(cs, 2*l.distinct-2)
+	if !ok {
+		return 4 * r.Bits()
+	}
+	for ; ; l.distinct-- {
+		d := r.Determinant(ball.Hankel(sums, l.distinct, l.distinct))
+		for range 2*l.distinct - 2 {
+			d = r.Mul(d, cs[l.degree()])
+		}
+		if d.Sign() != 0 {
+			l.known, l.squares = true, l.distinct < l.degree()
+			return r.Bits()
+		}
+		if gap := l.gap(); !r.Below(d, gap) {
+			return more(r, d, gap)
+		}
+	}
+}
+
+// gap is for the discriminant that the first rows, as many as distinct, tell.
+func (l *line) gap() int {
+	n, f := l.distinct, l.under.field(l.size.degrees)
+	return (2*n-2)*f.height(l.size) + f.degree*(n*bits.Len(uint(l.degree()-1))+1)
+}
+
+// slope is what the slopes of the polynomial cs are in a span, reckoned with so many bits or fewer, and told by rule r.
+func slope(cs []ball.Ball, s ball.Span, r ball.Rule, n int) ball.Ball {
+	short := r
+	if n < r.Bits() {
+		short = ball.Of(n)
+		cs = short.FromAll(r, cs)
+	}
+	return r.From(short, short.Value(ball.Derive(cs), short.Ball(s)))
+}
+
+// begin is where a real root is, so that Newton's way leads to it from there.
+func (l *line) begin(rank int) ball.Span {
+	if l.exact != nil {
+		return l.beginExact(rank)
+	}
+	for {
+		if s, ok := l.beginCell(rank); ok {
+			return s
+		}
+		for n := 2 * l.bits; l.bits < n; n *= 2 {
+			l.tell(ball.Of(n))
+		}
+	}
+}
+
+// beginCell is what begin tells, if the bits by which the roots are told apart are enough.
+func (l *line) beginCell(rank int) (ball.Span, bool) {
+	r := ball.Of(l.bits)
+	cs, ok := l.coefficients(r)
+	c := l.cells[rank]
+	for ok {
+		s := c.Span()
+		if slope(cs, s, r, l.bits).Even() {
+			return s, true
+		}
+		c, ok = c.Narrower()
+	}
+	return ball.Span{}, false
+}
+
+// beginExact is what begin tells of a root that is known.
+func (l *line) beginExact(rank int) ball.Span {
+	var s ball.Span
+	roots.CloseIn(func(k int) bool {
+		r := ball.Of(2 * k)
+		cs, _ := l.coefficients(r)
+		at := l.exact[rank].Floor(k)
+		s = ball.Span{Low: at, High: at.Add(num.Of(1)), Bits: k}
+		return slope(cs, s, r, 2*k).Even()
+	})
+	return s
+}
