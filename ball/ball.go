@@ -52,6 +52,9 @@ func (a Ball) Blunter(b Ball) bool {
 // Lost is how many bits the parts have that a's numbers may be off, 0 being among them.
 func (a Ball) Lost() int { return whole.BitLen(a.most()) }
 
+// Scale is an n for which all numbers in a are, without their signs, below 2^n; it may be below 0.
+func (r Rule) Scale(a Ball) int { return a.Lost() - r.bits }
+
 // Add is a + b.
 func (a Ball) Add(b Ball) Ball { return Ball{a.mid.Add(b.mid), a.rad.Add(b.rad)} }
 

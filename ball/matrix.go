@@ -39,18 +39,27 @@ func Hankel(list []Ball, rows, columns int) [][]Ball {
 	return m
 }
 
-// Determinant is that of as many rows as columns, but for its sign. It writes to the rows.
-func (r Rule) Determinant(rows [][]Ball) Ball {
-	det := r.Whole(num.Of(1))
-	for len(rows) > 0 {
+// Rank is how many of the rows surely do not hang on each other, as far as that can be told; and what is left of the
+// others, if as much of those is taken from them as makes most of their entries 0: one ball in which all the rest are.
+func (r Rule) Rank(rows [][]Ball) (int, Ball) {
+	n := 0
+	for len(rows) > 0 && len(rows[0]) > 0 {
 		i, j := widest(rows)
 		if rows[i][j].Sign() == 0 {
-			return r.Mul(det, r.hull(rows))
+			break
 		}
-		det = r.Mul(det, rows[i][j])
 		rows = r.without(rows, i, j)
+		n++
 	}
-	return det
+	var rest Ball
+	for _, row := range rows {
+		for _, a := range row {
+			if far := a.most(); far.Cmp(rest.rad) > 0 {
+				rest.rad = far
+			}
+		}
+	}
+	return n, rest
 }
 
 // widest is where the entry stands that is surest to be far from 0.
@@ -86,17 +95,19 @@ func (r Rule) without(rows [][]Ball, i, j int) [][]Ball {
 	return rest
 }
 
-// hull has the determinant of the rows, and its opposite: it is not above the product of what each row comes to.
-func (r Rule) hull(rows [][]Ball) Ball {
-	det := r.Whole(num.Of(1))
+// Longest is a ball in which all sums of the entries of a row are, whatever their signs.
+func Longest(rows [][]Ball) Ball {
+	var all Ball
 	for _, row := range rows {
-		var all num.Int
+		var sum num.Int
 		for _, a := range row {
-			all = all.Add(a.most())
+			sum = sum.Add(a.most())
 		}
-		det = r.Mul(det, Ball{mid: all})
+		if sum.Cmp(all.rad) > 0 {
+			all.rad = sum
+		}
 	}
-	return Ball{rad: det.most()}
+	return all
 }
 
 // Solve is the numbers with which the columns of the rows but the last come to the last one; nothing and false, if it

@@ -106,24 +106,61 @@ func (d *draw) rows(n, columns int) [][]*big.Rat {
 	return rows
 }
 
-func TestDeterminant(t *testing.T) {
+// rank is that of rows, by the plainest way.
+func rank(rows [][]*big.Rat) int {
+	n := 0
+	for c := 0; len(rows) > 0 && c < len(rows[0]); c++ {
+		p := slices.IndexFunc(rows, func(row []*big.Rat) bool { return row[c].Sign() != 0 })
+		if p < 0 {
+			continue
+		}
+		n++
+		pivot := rows[p]
+		rows = append(slices.Clone(rows[:p]), rows[p+1:]...)
+		for i, row := range rows {
+			rows[i] = slices.Clone(row)
+			for j := range row {
+				times := new(big.Rat).Quo(row[c], pivot[c])
+				rows[i][j] = new(big.Rat).Sub(row[j], times.Mul(times, pivot[j]))
+			}
+		}
+	}
+	return n
+}
+
+func TestRank(t *testing.T) {
 	d, r := &draw{4}, Of(80)
 	for range 600 {
-		n := d.below(6)
-		rows := d.rows(n, n)
+		n, columns := d.below(6), 1+d.below(6)
+		rows := d.rows(n, columns)
 		balls := make([][]Ball, n)
 		for i, row := range rows {
 			balls[i] = d.aroundAll(r, row, 3)
 		}
-		wanted, got := determinant(rows), r.Determinant(balls)
-		if !r.has(got, wanted) && !r.has(got, new(big.Rat).Neg(wanted)) {
-			t.Fatalf("%v: %s is not in %s", rows, wanted, got.mid.Text())
-		}
-		want(t, "well known", got.rad.Cmp(num.Of(1<<50)) < 0, true)
-		if wanted.Sign() == 0 {
-			want(t, "0", got.Sign(), 0)
-		}
+		got, rest := r.Rank(balls)
+		want(t, "rank", got, rank(rows))
+		want(t, "rest", rest.Sign(), 0)
+		want(t, "rest is nearly 0", r.Scale(rest) < -30, true)
+		want(t, "nothing is left", got < min(n, columns) || rest.Lost() == 0, true)
 	}
+	// With few bits no rank is told that is too high; and what is left is not told to be less than it is.
+	row := func(a, b, c, d int) [][]Ball {
+		return [][]Ball{{{num.Of(a), num.Of(2)}, {num.Of(b), num.Of(2)}}, {{num.Of(c), num.Of(2)}, {num.Of(d), num.Of(2)}}}
+	}
+	for _, c := range []struct{ a, b, c, d, rank, least int }{{1, 1, 2, -2, 0, 4}, {8, 0, 0, 1, 1, 3}, {8, 0, 0, 7, 1, 9}, {80, 0, 0, 70, 2, 0}, {0, 8, 1, 0, 1, 3}, {8, 8, 8, 8, 1, 6}} {
+		got, rest := Of(0).Rank(row(c.a, c.b, c.c, c.d))
+		want(t, "rank", got, c.rank)
+		want(t, "rest", rest.most().Cmp(num.Of(c.least)) >= 0, true)
+	}
+}
+
+func TestLongest(t *testing.T) {
+	a := Longest([][]Ball{{{num.Of(5), num.Of(1)}, {num.Of(-7), num.Of(2)}}, {{num.Of(14), num.Of(0)}, {}}})
+	want(t, "longest", a.most().Text(), "15")
+	none := Longest(nil)
+	want(t, "of no rows", none.most().Text(), "0")
+	want(t, "scale", Of(10).Scale(a), 4-10)
+	want(t, "scale", Of(2).Scale(Ball{num.Of(-16), num.Int{}}), 5-2)
 }
 
 func TestSolve(t *testing.T) {

@@ -1,6 +1,7 @@
 package tower
 
 import (
+	"slices"
 	"testing"
 
 	"radicand/ball"
@@ -91,6 +92,22 @@ func wantApart(t *testing.T, pt Point, p terms.Poly, s int) {
 	want(t, "nearer than the gap", r.Below(b, gap), false)
 }
 
+// determinant is that of the rows, by its definition.
+func determinant(r ball.Rule, rows [][]ball.Ball) ball.Ball {
+	if len(rows) == 0 {
+		return r.Whole(num.Of(1))
+	}
+	var sum ball.Ball
+	for j, a := range rows[0] {
+		var rest [][]ball.Ball
+		for _, row := range rows[1:] {
+			rest = append(rest, append(slices.Clone(row[:j]), row[j+1:]...))
+		}
+		sum = sum.Add(r.Mul(a, determinant(r, rest)).Times(num.Of(1 - 2*(j%2))))
+	}
+	return sum
+}
+
 // The gap of a discriminant, of lines whose roots stand near together.
 func TestGapsOfDiscriminants(t *testing.T) {
 	d := &draw{2}
@@ -118,16 +135,16 @@ func TestGapsOfDiscriminants(t *testing.T) {
 			continue
 		}
 		seen++
-		r := ball.Of(l.gap() + 2000)
+		r := ball.Of(l.gap(l.distinct) + 2000)
 		cs := l.under.look(r).values(l.cs)
 		sums, ok := r.Sums(cs, 2*l.distinct-2)
 		want(t, "told", ok, true)
-		det := r.Determinant(ball.Hankel(sums, l.distinct, l.distinct))
+		det := determinant(r, ball.Hankel(sums, l.distinct, l.distinct))
 		for range 2*l.distinct - 2 {
 			det = r.Mul(det, cs[l.degree()])
 		}
 		want(t, "seen", det.Sign() != 0, true)
-		want(t, "nearer than the gap", r.Below(det, l.gap()), false)
+		want(t, "nearer than the gap", r.Below(det, l.gap(l.distinct)), false)
 	}
 	want(t, "lines", seen > 60, true)
 }

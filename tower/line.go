@@ -90,32 +90,48 @@ func (l *line) tell(r ball.Rule) (int, bool) {
 }
 
 // count looks for how many roots there are, by that rule, and answers by how many bits it is to be looked next. There are
-// the greatest n so that the determinant of the first n rows and columns of the sums of powers is not 0: it is a sum over
-// all n of the roots, of how often each of them is there, times the squares of the distances between them.
+// as many as the rank of the matrix is that the sums of the powers of all roots make.
 func (l *line) count(r ball.Rule) int {
 	cs := l.under.look(r).values(l.cs)
-	sums, ok := r.Sums(cs, 2*l.distinct-2)
+	d := l.degree()
+	sums, ok := r.Sums(cs, 2*d-2)
 	if !ok {
 		return 4 * r.Bits()
 	}
-	for ; ; l.distinct-- {
-		d := r.Determinant(ball.Hankel(sums, l.distinct, l.distinct))
-		for range 2*l.distinct - 2 {
-			d = r.Mul(d, cs[l.degree()])
-		}
-		if d.Sign() != 0 {
-			l.known, l.squares = true, l.distinct < l.degree()
-			return r.Bits()
-		}
-		if gap := l.gap(); !r.Below(d, gap) {
-			return more(r, d, gap)
-		}
+	rows := ball.Hankel(sums, d, d)
+	// The longest row, also if what is left is taken from it.
+	longest := ball.Longest(rows)
+	rank, rest := r.Rank(rows)
+	rest = rest.Times(num.Of(d))
+	short := l.short(rank, r.Scale(cs[d]), r.Scale(longest.Add(rest)), r.Scale(rest))
+	if short > 0 {
+		return min(4*r.Bits(), r.Bits()+short+leastGuard)
 	}
+	l.known, l.squares, l.distinct = true, rank < d, rank
+	return r.Bits()
 }
 
-// gap is for the discriminant that the first rows, as many as distinct, tell.
-func (l *line) gap() int {
-	n, f := l.distinct, l.under.field(l.size.degrees)
+// short is by how many bits less the rows that are left would have to be known to be nearly 0, so that the rank is surely
+// no greater; 0 or less, if it is so. The last coefficient, the rows, and the rest are below 2 to those numbers.
+//
+// If it were greater, there would be an n above it so that the determinant of the first n rows and columns is not 0: it
+// is a sum over all n of the roots, of how often each is there, times the squares of the distances between them. But each
+// row is one of a matrix of that rank and a part of the rest; so the determinant is at most 2^n times as many rows as the
+// rank tells, times the rest as often as there are others.
+func (l *line) short(rank, last, row, rest int) int {
+	short := 0
+	for n := rank + 1; n <= l.degree(); n++ {
+		many := n - rank
+		most := l.gap(n) + (2*n-2)*last + n + rank*row
+		short = max(short, rest+(most+many)/many)
+	}
+	return short
+}
+
+// gap is for the determinant of the first n rows and columns, times the last coefficient to the power 2 n - 2: the
+// discriminant, or what stands there in its place, which is a polynomial in the coefficients.
+func (l *line) gap(n int) int {
+	f := l.under.field(l.size.degrees)
 	return (2*n-2)*f.height(l.size) + f.degree*(n*bits.Len(uint(l.degree()-1))+1)
 }
 
