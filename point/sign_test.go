@@ -1,6 +1,7 @@
 package point
 
 import (
+	"math/big"
 	"slices"
 	"strings"
 	"testing"
@@ -66,6 +67,69 @@ func TestSignsNearNought(t *testing.T) {
 				wantSign(t, pt, product(t, long, long), 1)
 				wantSign(t, pt, product(t, product(t, long, long), long), -sign)
 			}
+		}
+	}
+}
+
+// unit is a number as near to 0 as it can be next to how it is written: the power k of the root number n of two less 1,
+// as a sum of few terms, each number of which has the exponents that place tells. (Its product with all that cannot be
+// told apart from it is 1 or -1.)
+func unit(n, k int, place func(i int) []int) []api.Term {
+	cs := make([]*big.Int, n)
+	for i := range cs {
+		cs[i] = new(big.Int)
+	}
+	cs[0].SetInt64(1)
+	for range k {
+		// Times the root, of which the power n is 2, less itself.
+		next := make([]*big.Int, n)
+		for i := range next {
+			next[i] = new(big.Int).Sub(cs[(i+n-1)%n], cs[i])
+			if i == 0 {
+				next[i].Add(next[i], cs[n-1])
+			}
+		}
+		cs = next
+	}
+	var p []api.Term
+	for i, c := range cs {
+		p = append(p, api.Term{C: c.String(), E: place(i)})
+	}
+	return p
+}
+
+func opposite(p []api.Term) []api.Term {
+	l := slices.Clone(p)
+	for i, t := range l {
+		l[i].C = strings.TrimPrefix("-"+t.C, "--")
+		if t.C == "0" {
+			l[i].C = "0"
+		}
+	}
+	return l
+}
+
+func TestSignsOfUnits(t *testing.T) {
+	cube, sixth := parsePoint("0: 1 3, -2 0"), parsePoint("0: 1 3, -2 0; 1: 1 0 2, -1 1 0")
+	for k := 1; k <= 400; k += 7 {
+		p, q := unit(3, k, func(i int) []int { return []int{i} }), unit(6, k, func(i int) []int { return []int{i / 2, i % 2} })
+		wantSign(t, cube, p, 1)
+		wantSign(t, cube, opposite(p), -1)
+		wantSign(t, sixth, q, 1)
+		wantSign(t, sixth, opposite(q), -1)
+	}
+}
+
+// P9.4: z^2 less, or with, what is so near to 0; and (z - x)^2.
+func TestCountsOfUnits(t *testing.T) {
+	cube := parsePoint("0: 1 3, -2 0")
+	for k := 1; k <= 200; k += 13 {
+		p := unit(3, k, func(i int) []int { return []int{i, 0} })
+		for _, square := range []string{"1 0 2", "1 0 2, -2 1 1, 1 2 0"} {
+			wantCount(t, cube, append(parse(square), p...), 0)
+			wantCount(t, cube, append(parse(square), opposite(p)...), 2)
+			wantCount(t, cube, product(t, append(parse(square), p...), append(parse(square), opposite(p)...)), 2)
+			wantCount(t, cube, product(t, append(parse(square), opposite(p)...), append(parse(square), opposite(p)...)), 2)
 		}
 	}
 }

@@ -150,12 +150,15 @@ func (l *line) begin(rank int) ball.Span {
 	if l.exact != nil {
 		return l.beginExact(rank)
 	}
+	n := l.bits
 	for {
 		if s, ok := l.beginCell(rank); ok {
 			return s
 		}
-		for n := 2 * l.bits; l.bits < n; n *= 2 {
-			l.tell(ball.Of(n))
+		// The cells that are told by more bits are no fewer and no more, and each has the same root.
+		for told := false; !told; {
+			n *= 2
+			_, told = l.tell(ball.Of(n))
 		}
 	}
 }

@@ -52,11 +52,14 @@ func (x *Root) step(n int) {
 		return
 	}
 	got, short := near.Narrow()-old, goal-near.Narrow()
-	if blunt && (got == 0 || short > mostShort) {
+	switch {
+	case got == 0:
+		x.guard *= 2
+	case blunt && short > mostShort:
 		x.guard = max(x.guard, near.Bits-near.Narrow()) + mostShort
-	} else {
+	default:
 		// Newton's way makes about twice as many bits right each time, as soon as it does.
-		x.gain = 2 * max(1, got)
+		x.gain = 2 * got
 	}
 }
 

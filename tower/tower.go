@@ -40,7 +40,7 @@ func (pt Point) Sign(p terms.Poly) int {
 	}
 	near := func(r ball.Rule) ball.Ball { return pt.look(r).value(p) }
 	gap := pt.gap(sizeOf(p))
-	if gap > plainFrom && near(ball.Of(firstLook)).Sign() == 0 && pt.plainly(p) {
+	if gap > plainFrom && near(ball.Of(firstLook)).Sign() == 0 && pt.plainly(p, gap) {
 		return 0
 	}
 	return k.Sign() * sign(gap, near)

@@ -6,6 +6,7 @@ import (
 
 	"radicand/num"
 	"radicand/terms"
+	"radicand/whole"
 )
 
 func TestPlainly(t *testing.T) {
@@ -25,22 +26,25 @@ func TestPlainly(t *testing.T) {
 	} {
 		pt := made(t, c.pt)
 		p := pt.fixed(read(c.p))
-		want(t, c.pt+" | "+c.p, pt.plainly(p), c.is)
+		want(t, c.pt+" | "+c.p, pt.plainly(p, 0), c.is)
 		if c.is {
 			want(t, c.pt+" | "+c.p+": sign", pt.Sign(p), 0)
 		}
 	}
 }
 
-// What would take too many steps is not seen.
+// What would take too many steps is not seen; products are.
 func TestPlainlyGivesUp(t *testing.T) {
 	d := &draw{3}
+	f := read("1 3 3, -2 0 3, 1 1 2, 1 2 1, -7 0 0")
 	pt := made(t, "1: 1 2, -2 0; 0: 1 3 3, -2 0 3, 1 1 2, 1 2 1, -7 0 0")
 	p := d.poly(2, 400, 40, 1000)
-	r := rest{pt, mostSteps}
-	want(t, "none", r.none(p.Mul(read("1 3 3, -2 0 3, 1 1 2, 1 2 1, -7 0 0")), 1), false)
+	r := rest{pt, fewSteps}
+	want(t, "none", r.none(p, 1), false)
 	want(t, "steps", r.steps < 0 && r.steps > -1000000, true)
-	want(t, "sign", pt.Sign(p.Mul(read("1 3 3, -2 0 3, 1 1 2, 1 2 1, -7 0 0"))), 0)
+	want(t, "product", pt.plainly(p.Mul(f), 0), true)
+	want(t, "sign", pt.Sign(p.Mul(f)), 0)
+	want(t, "sign", pt.Sign(p.Mul(f).Add(read("1 1 0"))), 1)
 }
 
 // Spans have their roots, however much is asked for, and in which order.
@@ -151,6 +155,35 @@ func TestCounts(t *testing.T) {
 			want(t, "0 there", at.Sign(c.p), 0)
 			if i > 0 {
 				want(t, "rising", pt.With(rs[i-1]).Floor(1, 9).Cmp(at.Floor(1, 9)), -1)
+			}
+		}
+	}
+}
+
+// Two roots that stand near to each other are closed in on, whatever bits it takes to tell them apart.
+func TestNearRoots(t *testing.T) {
+	pt := made(t, "1: 1 2, -2 0")
+	square, part := read("1 0 2, -2 1 1, 2 0 0"), num.Whole(num.Of(1))
+	half, _ := num.Over(num.Of(1), num.Of(2))
+	for k := range 150 {
+		// (y - x)^2 is 2^-k.
+		rs, _ := pt.Roots(square.Sub(terms.Number(part)))
+		want(t, "roots", len(rs), 2)
+		low, high := pt.With(rs[0]), pt.With(rs[1])
+		for _, at := range []Point{low, high} {
+			want(t, "span", at[1].span(2*k).Narrow() >= 2*k, true)
+		}
+		want(t, "beside x", low.Sign(read("1 0 1, -1 1 0")) == -1 && high.Sign(read("1 0 1, -1 1 0")) == 1, true)
+		part = part.Mul(half)
+	}
+	for _, times := range []int{1, 3, 1000, 1 << 40} {
+		for k := range 60 {
+			// A root near to 0, one near to 2^k, and one that is far from both.
+			p := read("1 0 1").Sub(terms.Number(part)).Mul(read("1 0 1, -1 1 0").Sub(terms.Number(num.Whole(whole.TwoTo(k))))).Mul(read("1 1 1, 1 0 0").Scale(num.Whole(num.Of(times))))
+			rs, _ := pt.Roots(p)
+			want(t, "roots", len(rs), 3)
+			for _, x := range rs {
+				want(t, "span", x.span(k).Narrow() >= k, true)
 			}
 		}
 	}
