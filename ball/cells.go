@@ -81,7 +81,8 @@ func (c *Cell) Narrower() (Cell, bool) {
 	return parts[0], true
 }
 
-// widestCell is one in which all real roots are.
+// widestCell is one in which all real roots are, of each polynomial that is in the balls: so the signs at its ends are
+// sure. It is refused, if the last coefficient may be 0.
 func widestCell(cs []Ball) (Cell, bool) {
 	n := len(cs) - 1
 	if cs[n].Sign() == 0 {
@@ -102,7 +103,7 @@ func widestCell(cs []Ball) (Cell, bool) {
 	}
 	c.spread()
 	c.count()
-	return c, c.sure(0) && c.sure(n)
+	return c, true
 }
 
 // spread makes of the coefficients of a polynomial at x those of Bernstein's way at 2 x. What the coefficients of the

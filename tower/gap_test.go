@@ -94,6 +94,19 @@ func wantApart(t *testing.T, pt Point, p terms.Poly, s int) {
 	want(t, "nearer than the gap", r.Below(b, gap), false)
 }
 
+// Gaps of determinants: the height of the coefficients as often as they stand in each product, and the bits of the sum of
+// the products.
+func TestGapOfLine(t *testing.T) {
+	pt := made(t, "1: 1 2, -2 0")
+	for _, c := range []struct {
+		p      string
+		n, gap int
+	}{{"1 0 2, -1 1 0", 2, 2*4 + 2*3}, {"1 0 2, -1 1 0", 1, 2 * 2}, {"1 0 3, -1 1 1, 1 0 0", 3, 4*6 + 2*7}, {"1 0 3, -1 1 1, 1 0 0", 2, 2*6 + 2*5}, {"1 0 5, -1 1 0", 5, 8*4 + 2*16}} {
+		rs, _ := pt.Roots(read(c.p))
+		want(t, c.p, rs[0].line.gap(c.n), c.gap)
+	}
+}
+
 // determinant is that of the rows, by its definition.
 func determinant(r ball.Rule, rows [][]ball.Ball) ball.Ball {
 	if len(rows) == 0 {

@@ -42,6 +42,8 @@ func TestPlainlyGivesUp(t *testing.T) {
 	r := rest{pt, fewSteps}
 	want(t, "none", r.none(p, 1), false)
 	want(t, "steps", r.steps < 0 && r.steps > -1000000, true)
+	r = rest{pt, 0}
+	want(t, "no step at all", r.none(read("1 0 3"), 1), false)
 	want(t, "product", pt.plainly(p.Mul(f), 0), true)
 	want(t, "sign", pt.Sign(p.Mul(f)), 0)
 	want(t, "sign", pt.Sign(p.Mul(f).Add(read("1 1 0"))), 1)
@@ -175,6 +177,15 @@ func TestNearRoots(t *testing.T) {
 		}
 		want(t, "beside x", low.Sign(read("1 0 1, -1 1 0")) == -1 && high.Sign(read("1 0 1, -1 1 0")) == 1, true)
 		part = part.Mul(half)
+	}
+	for k := 0; k < 400; k += 7 {
+		// 4^k (x - 1)^2 is 3: numbers alone.
+		rs, _ := Point(nil).Roots(read("1 2, -2 1, 1 0").Scale(num.Whole(whole.TwoTo(2 * k))).Sub(read("3 0")))
+		want(t, "roots", len(rs), 2)
+		for i, x := range rs {
+			want(t, "span", x.span(k).Narrow() >= k, true)
+			want(t, "beside 1", Point{x}.Sign(read("1 1, -1 0")), 2*i-1)
+		}
 	}
 	for _, times := range []int{1, 3, 1000, 1 << 40} {
 		for k := range 60 {
